@@ -1,0 +1,1 @@
+"""Freerides: each ride is stamped on cards, and full cards give rides."""
