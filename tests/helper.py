@@ -11,7 +11,7 @@ ENDING = [(2,), (3,), (20,), (2, 3), (3, 2), (3, 3), (20, 20), (2, 3, 7), (7, 2,
 
 
 def whole_things():
-    """Things that are neither cards, a purse, stamps, a row nor a number, whatever the cards."""
+    """Things that are neither cards, a purse, stamps, a row, a number, purses nor seen, whatever the cards."""
     deep = 3
     for _ in range(9):
         deep = (deep,)
@@ -46,6 +46,14 @@ def done(cards, purse, deed):
     if deed == "ride":
         return (rides - 1, tuple(many + 1 for many in stamps))
     return (rides + 1, tuple(many - cards[kind] * (kind == deed) for kind, many in enumerate(stamps)))
+
+
+def do(kept, deed):
+    """Ride, or give a card of the kind, of a kept purse."""
+    if deed == "ride":
+        kept.ride()
+    else:
+        kept.give(deed)
 
 
 def flat(purse):
@@ -84,22 +92,42 @@ def orders():
     ]
 
 
-def all_ends(cards, purse, bound):
-    """All (ridden, stamps left) that any order of deeds ends with, within so many rides."""
+def all_states(cards, purse, bound):
+    """All (ridden, purse) that any order of deeds comes by, within so many rides."""
     seen = {(0, purse)}
     todo = [(0, purse)]
-    ends = set()
     while todo:
         ridden, now = todo.pop()
-        deeds = deeds_of(cards, now)
-        if not deeds:
-            ends.add((ridden, now[1]))
-        for deed in deeds:
+        for deed in deeds_of(cards, now):
             step = (ridden + (deed == "ride"), done(cards, now, deed))
             if step[0] <= bound and step not in seen:
                 seen.add(step)
                 todo.append(step)
-    return ends
+    return seen
+
+
+def all_ends(cards, purse, bound):
+    """All (ridden, stamps left) that any order of deeds ends with, within so many rides."""
+    states = all_states(cards, purse, bound)
+    return {(ridden, now[1]) for ridden, now in states if not deeds_of(cards, now)}
+
+
+def had_with_loan(cards, purse, loan, bound):
+    """All numbers of rides within the bound that some order of deeds has with the loan, and can give it back then."""
+    states = all_states(cards, (purse[0] + loan, purse[1]), bound)
+    return {ridden for ridden, now in states if now[0] >= loan}
+
+
+def paid(cards, purse, ridden):
+    """The rides to begin with, and those for the full cards that all stamps of so many rides make."""
+    return purse[0] + sum((many + ridden) // full for full, many in zip(cards, purse[1]))
+
+
+def some_purses(cards, chance):
+    """Small and great purses for the cards."""
+    for most in (3, 25, 10 ** 6, MOST - 1):
+        for _ in range(3):
+            yield (chance.randint(0, most), tuple(chance.randint(0, most) for _ in cards))
 
 
 def at_least(more, fewer):

@@ -15,6 +15,13 @@ INTERFACE = {
     "cards": ["are_cards(thing)", "is_purse(cards, thing)", "behind(cards, purse, row)"],
     "rides": ["all_rides(cards, purse)", "left(cards, purse)", "least_endless(cards, stamps)",
               "least_rides(cards, stamps, number)"],
+    "loans": ["greatest(cards, purse)", "can_have(cards, purse, number)", "least_loan(cards, purse, number)"],
+    "folk": ["apart(cards, purses)", "together(cards, purses)"],
+    "seen": ["fits(seen)"],
+    "kept": ["Kept", "Kept.__init__(self, cards, purse)", "Kept.ride(self)", "Kept.give(self, kind)",
+             "Kept.lend(self, number)", "Kept.pay(self, number)", "Kept.back(self)", "Kept.purse(self)",
+             "Kept.ridden(self)", "Kept.lent(self)", "Kept.still(self)", "Kept.__len__(self)",
+             "Kept.__eq__(self, other)"],
 }
 
 BUILTINS = set(
@@ -42,6 +49,11 @@ def defined(path):
         elif isinstance(row, ast.Assign):
             names.append(row.targets[0].id)
     return names
+
+
+def signature(row):
+    """The name of a function with its arguments, as the interface writes it."""
+    return f"{row.name}({', '.join(arg.arg for arg in row.args.args)})"
 
 
 class Files(unittest.TestCase):
@@ -97,17 +109,33 @@ class Code(unittest.TestCase):
         for path in FILES:
             for node in ast.walk(tree(path)):
                 name = getattr(node, "id", getattr(node, "arg", getattr(node, "name", None)))
-                if isinstance(name, str) and name != "__init__":
+                if isinstance(name, str) and name not in ("__init__", "__len__", "__eq__"):
                     self.assertRegex(name, r"\A[A-Za-z][A-Za-z0-9_]*\Z", path.name)
+
+    def test_what_takes_a_list_takes_no_generator(self):
+        for path in FILES:
+            for node in ast.walk(tree(path)):
+                self.assertNotIsInstance(node, ast.GeneratorExp, path.name)
+
+    def test_no_method_has_the_name_of_an_attribute(self):
+        methods, attributes = set(), set()
+        for path in FILES:
+            for node in ast.walk(tree(path)):
+                if isinstance(node, ast.ClassDef):
+                    methods |= {part.name for part in node.body if isinstance(part, ast.FunctionDef)}
+                if isinstance(node, ast.Attribute) and isinstance(node.ctx, ast.Store):
+                    attributes.add(node.attr)
+        self.assertEqual(methods & attributes, set())
 
     def test_the_interface_is_defined_where_it_is_listed(self):
         for module, listed in INTERFACE.items():
             told = []
             for row in tree(PACKAGE / f"{module}.py").body:
                 if isinstance(row, ast.FunctionDef):
-                    told.append(f"{row.name}({', '.join(arg.arg for arg in row.args.args)})")
+                    told.append(signature(row))
                 elif isinstance(row, ast.ClassDef):
                     told.append(row.name)
+                    told += [f"{row.name}.{signature(part)}" for part in row.body if isinstance(part, ast.FunctionDef)]
             for entry in listed:
                 self.assertIn(entry, told, module)
 

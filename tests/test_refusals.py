@@ -4,7 +4,7 @@ import copy
 import itertools
 import unittest
 
-from freerides import cards, errors, rides
+from freerides import cards, errors, folk, kept, loans, rides, seen
 from tests.helper import MOST, whole_things
 
 # Of each function the right arguments, and for each of them the refusal of what is none.
@@ -15,6 +15,13 @@ CALLS = [
     (rides.left, [(2, 3), (2, (4, 5))], [errors.NoCards, errors.NoPurse]),
     (rides.least_endless, [(2, 3), (4, 5)], [errors.NoCards, errors.NoStamps]),
     (rides.least_rides, [(2, 3), (4, 5), 9], [errors.NoCards, errors.NoStamps, errors.NoNumber]),
+    (loans.greatest, [(2, 3), (2, (4, 5))], [errors.NoCards, errors.NoPurse]),
+    (loans.can_have, [(2, 3), (2, (4, 5)), 9], [errors.NoCards, errors.NoPurse, errors.NoNumber]),
+    (loans.least_loan, [(2, 3), (2, (4, 5)), 9], [errors.NoCards, errors.NoPurse, errors.NoNumber]),
+    (folk.apart, [(2, 3), ((2, (4, 5)), (1, (0, 0)))], [errors.NoCards, errors.NoPurses]),
+    (folk.together, [(2, 3), ((2, (4, 5)), (1, (0, 0)))], [errors.NoCards, errors.NoPurses]),
+    (seen.fits, [((2, 3), (5, None))], [errors.NoSeen]),
+    (kept.Kept, [(2, 3), (2, (4, 5))], [errors.NoCards, errors.NoPurse]),
 ]
 
 WRONG = {
@@ -25,6 +32,10 @@ WRONG = {
                       (2, (4, 5)), ((4, 5),), 4, ("4", "5")],
     errors.NoRow: [("ride", 0), ["ride", 2], ["ride", -1], ["ride", True], [False], ["rides"], ["ride"] * 101, "ride"],
     errors.NoNumber: [-1, MOST + 1, 10 ** 39, True, False, None, "9", [9], (9,), ""],
+    errors.NoPurses: [(2, (4, 5)), ((2, (4, 5)),) * 9, [(2, (4, 5))], ((2, (4, 5)), (2, (4,))), ((2, (4, True)),),
+                      ((2, (4, 5)), None), ((2, [4, 5]),), ([2, (4, 5)],), (((2, (4, 5)),),), ((MOST + 1, (4, 5)),)],
+    errors.NoSeen: [(2, 3), ((2, 3),) * 21, [(2, 3)], ((2, 3), (1001, 5)), ((-1, 3),), ((2, -1),), ((2, MOST + 1),),
+                    ((2, 3, 4),), ((2,),), ([2, 3],), ((True, 3),), ((2, False),), ((None, 3),), (None,), ((2, "3"),)],
 }
 
 
@@ -58,6 +69,12 @@ class Refusals(unittest.TestCase):
         self.refused(rides.least_endless, [(5,), (0, 0)], errors.NoStamps)
         self.refused(rides.all_rides, [(2, 2), (9, (9, True))], errors.NoPurse)
         self.refused(rides.left, [(2, 2), (9, (9, True))], errors.NoPurse)
+        self.refused(loans.greatest, [(2, 2), (9, (9, True))], errors.NoPurse)
+        self.refused(loans.can_have, [(5,), [0, (0,)], 0], errors.NoPurse)
+        self.refused(loans.least_loan, [(5,), (0, [0]), 0], errors.NoPurse)
+        self.refused(folk.apart, [(2, 2), ((9, (9, 9)), None)], errors.NoPurses)
+        self.refused(folk.together, [(2, 2), ((9, (9, 9)), None)], errors.NoPurses)
+        self.refused(seen.fits, [((0, 1), (0, True))], errors.NoSeen)
 
     def test_bounds_are_answered(self):
         for full in (2, 20):
@@ -70,6 +87,12 @@ class Refusals(unittest.TestCase):
                         rides.left(kind, (number, stamps))
                         rides.least_endless(kind, stamps)
                         rides.least_rides(kind, stamps, number)
+                        loans.greatest(kind, (number, stamps))
+                        loans.can_have(kind, (number, stamps), number)
+                        loans.least_loan(kind, (number, stamps), number)
+                        folk.apart(kind, ((number, stamps),) * 8)
+                        folk.together(kind, ((number, stamps),) * 8)
+                        kept.Kept(kind, (number, stamps)).still()
 
     def refused(self, function, given, refusal):
         """The very refusal is raised, and what was handed in stays as it was."""
@@ -98,9 +121,11 @@ class Unchanged(unittest.TestCase):
         calls = [(function, right) for function, right, _ in CALLS]
         calls += [(cards.are_cards, [thing]) for thing in [(2,), [2], None]]
         calls += [(rides.all_rides, [(2, 2), (2, (0, 0))]), (rides.left, [(2, 3, 7), (MOST, (1, 2, 3))])]
+        calls += [(loans.greatest, [(2, 2), (2, (0, 0))]), (loans.least_loan, [(2, 2), (0, (0, 0)), 3])]
         once = [function(*given) for function, given in calls]
         again = [function(*given) for function, given in reversed(calls)]
-        self.assertEqual(repr(once), repr(again[::-1]))
+        self.assertEqual(once, again[::-1])
+        self.assertEqual([type(told) for told in once], [type(told) for told in again[::-1]])
 
 
 if __name__ == "__main__":

@@ -4,7 +4,7 @@ import random
 import unittest
 
 from freerides.rides import all_rides, left
-from tests.helper import ENDING, MOST, PAYING, all_ends, in_order, orders, ride_first, small_purses
+from tests.helper import ENDING, MOST, PAYING, all_ends, in_order, orders, paid, ride_first, small_purses
 
 
 class SmallPurses(unittest.TestCase):
@@ -120,11 +120,6 @@ class GreatPurses(unittest.TestCase):
             self.assertIs(type(all_rides(cards, purse)), int)
             self.assertIs(type(left(cards, purse)), tuple)
             self.assertEqual({type(many) for many in left(cards, purse)}, {int})
-
-
-def paid(cards, purse, ridden):
-    """The rides to begin with, and those for the full cards that all stamps of so many rides make."""
-    return purse[0] + sum((many + ridden) // full for full, many in zip(cards, purse[1]))
 
 
 if __name__ == "__main__":
